@@ -1,0 +1,1 @@
+"""Nested records shredded into columns, and assembled again."""
