@@ -1,11 +1,13 @@
 """The calls on one object, told and answered as lists of whole numbers."""
 
 from shredcolumns.entries import shred
+from shredcolumns.faults import NO_FAULT, faultless_rows, first_fault
+from shredcolumns.handed import read_columns
 from shredcolumns.refusals import (
-    NO_SCHEMA, NO_SUCH_COLUMN, NO_SUCH_ROW, TOO_MANY_ROWS, WRONG_TEXT,
-    NoSchema, NoSuchColumn, NoSuchRow, TooManyRows, UnknownCall, WrongText,
+    NO_ROWS, NO_SCHEMA, NO_SUCH_COLUMN, NO_SUCH_ROW, TOO_MANY_ENTRIES, TOO_MANY_ROWS, WRONG_ENTRIES, WRONG_TEXT,
+    NoRows, NoSchema, NoSuchColumn, NoSuchRow, TooManyEntries, TooManyRows, UnknownCall, WrongEntries, WrongText,
 )
-from shredcolumns.rows import read_row
+from shredcolumns.rows import read_row, row_text
 from shredcolumns.schemas import read_schema
 
 MOST_ROWS = 100
@@ -16,6 +18,11 @@ CALL_ROWS = 2
 CALL_SHOW = 3
 CALL_COLUMN = 4
 CALL_ENTRIES = 5
+CALL_CHECK = 6
+CALL_ASSEMBLE = 7
+CALL_LOAD = 8
+CALL_ADD = 9
+CALL_DROP = 10
 
 
 class Row:
@@ -51,10 +58,13 @@ class Desk:
         self.known_schema()
         return [len(self.kept)]
 
-    def show_row(self, number):
+    def check_row(self, number):
         self.known_schema()
         if number < 0 or number >= len(self.kept):
             raise NoSuchRow()
+
+    def show_row(self, number):
+        self.check_row(number)
         text = self.kept[number].text
         return [len(text)] + text
 
@@ -78,6 +88,53 @@ class Desk:
             total += row.entries[column].total
             numbers.extend(row.entries[column].numbers)
         return [total] + numbers
+
+    def known_columns(self, numbers):
+        self.known_schema()
+        if len(numbers) == 0:
+            raise NoSuchColumn()
+        for place in range(1, len(numbers)):
+            if numbers[place] <= numbers[place - 1]:
+                raise NoSuchColumn()
+        return [self.known_column(number) for number in numbers]
+
+    def tell_fault(self, numbers, entries):
+        columns = read_columns(self.known_columns(numbers), entries)
+        fault = first_fault(self.schema.record, columns)
+        if fault.kind == NO_FAULT:
+            return [NO_FAULT, columns[0].count_beginnings(), 0]
+        return [fault.kind, fault.column_place, fault.entry_place]
+
+    def assemble_texts(self, numbers, entries):
+        columns = read_columns(self.known_columns(numbers), entries)
+        record = self.schema.record
+        values = faultless_rows(record, columns)
+        told = [len(values)]
+        for value in values:
+            text = row_text(record, value)
+            told.append(len(text))
+            told.extend(text)
+        return told
+
+    def load_rows(self, entries):
+        self.kept = self.joined_rows([], entries)
+        return [len(self.kept)]
+
+    def add_rows(self, entries):
+        self.kept = self.joined_rows(self.kept, entries)
+        return [len(self.kept)]
+
+    def joined_rows(self, before, entries):
+        schema = self.known_schema()
+        values = faultless_rows(schema.record, read_columns(schema.columns, entries))
+        if len(before) + len(values) > MOST_ROWS:
+            raise TooManyRows()
+        return before + [Row(row_text(schema.record, value), shred(schema, value)) for value in values]
+
+    def drop_row(self, number):
+        self.check_row(number)
+        self.kept.pop(number)
+        return [0]
 
 
 class CallReader:
@@ -118,6 +175,18 @@ def carry_out(desk, reader):
         first = reader.take_number()
         count = reader.take_number()
         return desk.tell_entries(column, first, count)
+    if call == CALL_CHECK:
+        columns = reader.take_list()
+        return desk.tell_fault(columns, reader.take_list())
+    if call == CALL_ASSEMBLE:
+        columns = reader.take_list()
+        return desk.assemble_texts(columns, reader.take_list())
+    if call == CALL_LOAD:
+        return desk.load_rows(reader.take_list())
+    if call == CALL_ADD:
+        return desk.add_rows(reader.take_list())
+    if call == CALL_DROP:
+        return desk.drop_row(reader.take_number())
     raise UnknownCall()
 
 
@@ -126,6 +195,8 @@ def answer_next(desk, reader):
         return carry_out(desk, reader)
     except WrongText:
         return [WRONG_TEXT]
+    except NoRows:
+        return [NO_ROWS]
     except NoSchema:
         return [NO_SCHEMA]
     except NoSuchRow:
@@ -134,6 +205,10 @@ def answer_next(desk, reader):
         return [NO_SUCH_COLUMN]
     except TooManyRows:
         return [TOO_MANY_ROWS]
+    except TooManyEntries:
+        return [TOO_MANY_ENTRIES]
+    except WrongEntries:
+        return [WRONG_ENTRIES]
 
 
 def answers(calls):

@@ -27,6 +27,8 @@ class Field:
         # The columns that this field is or has within it: from the first on, up to the end, without it.
         self.first_column = 0
         self.end_column = 0
+        # The definition levels of the repeating fields on the path, the outermost first.
+        self.repeating_levels = []
 
     def is_leaf(self):
         return self.kind != RECORD and self.kind != CHOICE
@@ -48,4 +50,6 @@ def field_within(parent, number, name, mode):
     # In a choice even a field that occurs once may not be the one taken, so its being there is told.
     if mode != ONCE or parent.kind == CHOICE:
         definition += 1
-    return Field(name, mode, parent.path + [number], repetition, definition)
+    field = Field(name, mode, parent.path + [number], repetition, definition)
+    field.repeating_levels = parent.repeating_levels + ([definition] if is_repeating(mode) else [])
+    return field

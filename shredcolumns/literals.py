@@ -1,6 +1,7 @@
 """Literals of the leaf kinds: what is written, and the value that it stands for."""
 
 from shredcolumns.fields import BIT, WHOLE
+from shredcolumns.reader import Reader
 from shredcolumns.refusals import WrongText
 from shredcolumns.signs import (
     BACKSLASH, DIGIT_ONE, DIGIT_ZERO, LETTER_A, LETTER_F, MINUS, QUOTE, is_digit, is_plain,
@@ -18,6 +19,16 @@ def read_literal(reader, field):
     begin = reader.place
     meaning = read_meaning(reader, field)
     return Literal(reader.text[begin:reader.place], meaning)
+
+
+def literal_or_none(text, field):
+    reader = Reader(text)
+    try:
+        literal = read_literal(reader, field)
+        reader.expect_end()
+    except WrongText:
+        return None
+    return literal
 
 
 def read_meaning(reader, field):
@@ -105,3 +116,23 @@ def read_hex_digit(reader):
     if LETTER_A <= sign <= LETTER_F:
         return sign - LETTER_A + 10
     raise WrongText()
+
+
+def has_literals(field, wanted):
+    if field.kind == BIT:
+        return wanted <= 2
+    if field.kind == WHOLE:
+        return wanted <= power_of_two(field.size)
+    return has_texts(field.size, wanted)
+
+
+def has_texts(longest, wanted):
+    of_this_length = 1
+    found = 1
+    for length in range(longest):
+        # Stopped early, since the texts of up to 999 bytes are too many to be counted.
+        if found >= wanted:
+            return True
+        of_this_length = of_this_length * 256
+        found += of_this_length
+    return found >= wanted

@@ -1,7 +1,8 @@
-"""A row's text, read into the row's value.
+"""A row's text, read into the row's value, and the value written as its text again.
 
 A leaf's value is a Literal. A group's value is a list that has, for each of the group's fields, the list of
-that field's occurrences; in a choice all of these but one are empty.
+that field's occurrences; in a choice all of these but one are empty. Where only some columns are told, a field
+that is left out has an empty list too.
 """
 
 from shredcolumns.fields import CHOICE, KEYED, ONCE, RECORD, is_repeating
@@ -52,15 +53,16 @@ def read_occurrences(reader, field):
     if is_repeating(field.mode):
         while reader.take(COMMA):
             occurrences.append(read_value(reader, field))
-    if field.mode == KEYED:
-        check_keys(occurrences)
+    if field.mode == KEYED and not keys_rise(occurrences):
+        raise WrongText()
     return occurrences
 
 
-def check_keys(occurrences):
+def keys_rise(occurrences):
     for place in range(1, len(occurrences)):
         if key_of(occurrences[place]) <= key_of(occurrences[place - 1]):
-            raise WrongText()
+            return False
+    return True
 
 
 def key_of(value):
@@ -82,3 +84,38 @@ def read_choice(reader, choice):
         raise WrongText()
     reader.expect(CHOICE_END)
     return value
+
+
+def row_text(record, value):
+    text = []
+    write_value(record, value, text)
+    return text
+
+
+def write_value(field, value, text):
+    if field.kind == RECORD:
+        text.append(RECORD_START)
+        write_fields(field, value, text)
+        text.append(RECORD_END)
+    elif field.kind == CHOICE:
+        text.append(CHOICE_START)
+        write_fields(field, value, text)
+        text.append(CHOICE_END)
+    else:
+        text.extend(value.signs)
+
+
+def write_fields(group, value, text):
+    between = []
+    for field, occurrences in zip(group.fields, value):
+        if len(occurrences) > 0:
+            text.extend(between + field.name + [COLON])
+            write_occurrences(field, occurrences, text)
+            between = [SEMICOLON]
+
+
+def write_occurrences(field, occurrences, text):
+    write_value(field, occurrences[0], text)
+    for value in occurrences[1:]:
+        text.append(COMMA)
+        write_value(field, value, text)

@@ -1,5 +1,7 @@
 """Calls written as lists of numbers, and their answers taken apart again."""
 
+import unittest
+
 from shredcolumns.desk import answers
 
 WRONG_TEXT = [-1]
@@ -7,6 +9,9 @@ NO_SCHEMA = [-2]
 NO_SUCH_ROW = [-3]
 NO_SUCH_COLUMN = [-4]
 TOO_MANY_ROWS = [-5]
+TOO_MANY_ENTRIES = [-6]
+WRONG_ENTRIES = [-7]
+FAULTY = [-1]
 
 FAR = 10 ** 18
 
@@ -18,6 +23,11 @@ SHAPES = (
 SHAPES_ROW = '{id:5;tags:"a","b\\22";pos:{x:-1;y:2};shape:<line:{len:7}>;attr:{key:"a"},{key:"b";val:3}}'
 NESTED = "{1a?{2b*t3};3c*{1d!b;2e?i8}}"
 NESTED_ROWS = ('{a:{b:"x","y"};c:{d:1},{d:0;e:5}}', "{}", "{a:{}}")
+NESTED_COLUMNS = (
+    [(0, 2, '"x"'), (1, 2, '"y"'), (0, 0), (0, 1)],
+    [(0, 1, "1"), (1, 1, "0"), (0, 0), (0, 0)],
+    [(0, 1), (1, 2, "5"), (0, 0), (0, 0)],
+)
 
 
 def signs(text):
@@ -52,6 +62,26 @@ def column(number):
 
 def entries(number, first, count):
     return [5, number, first, count]
+
+
+def check(numbers, handed):
+    return [6] + with_length(list(numbers)) + with_length(handed)
+
+
+def assemble(numbers, handed):
+    return [7] + with_length(list(numbers)) + with_length(handed)
+
+
+def load(handed):
+    return [8] + with_length(handed)
+
+
+def add(handed):
+    return [9] + with_length(handed)
+
+
+def drop(row):
+    return [10, row]
 
 
 def line(calls):
@@ -93,3 +123,27 @@ def entry_numbers(told):
         if len(entry) == 3:
             numbers += with_length(signs(entry[2]))
     return numbers
+
+
+def column_numbers(*columns):
+    """The entries of several columns as numbers, as they are handed in."""
+    return [number for told in columns for number in entry_numbers(told)]
+
+
+def texts_answer(*texts):
+    """The answer of assemble."""
+    return [len(texts)] + [number for text in texts for number in text_answer(text)]
+
+
+class FaultCase(unittest.TestCase):
+    def first(self, schema_text, numbers, columns):
+        return last(schema(schema_text), check(numbers, column_numbers(*columns)))
+
+    def fault(self, kind, column_place, entry_place, schema_text, numbers, *columns):
+        with self.subTest(schema=schema_text, columns=columns):
+            self.assertEqual(self.first(schema_text, numbers, columns), [kind, column_place, entry_place])
+            self.assertEqual(last(schema(schema_text), assemble(numbers, column_numbers(*columns))), FAULTY)
+
+    def fine(self, count, schema_text, numbers, *columns):
+        with self.subTest(schema=schema_text, columns=columns):
+            self.assertEqual(self.first(schema_text, numbers, columns), [0, count, 0])
